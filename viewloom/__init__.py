@@ -1,0 +1,1 @@
+"""Viewloom: interfaces whose components are text."""

@@ -1,0 +1,1 @@
+"""The checks of programs that were read."""

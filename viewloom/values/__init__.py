@@ -1,0 +1,1 @@
+"""Values, and the expressions that have them."""

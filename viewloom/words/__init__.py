@@ -1,0 +1,1 @@
+"""The words of programs: tokens, grammar and canonical text."""
