@@ -1,7 +1,8 @@
 """The faults of the grammar ([7])."""
 
 from tests import samples
-from tests.helpers import SourceCase, component
+from tests.helpers import SourceCase, component, source_of
+from viewloom.errors import InvalidSource
 from viewloom.words.reading import parse_expression, parse_program
 from viewloom.words.tokens import tokens
 
@@ -134,6 +135,24 @@ class GrammarFaults(SourceCase):
             for source, expected in rows:
                 self.check(call, ahead + source + behind, expected)
 
+    def test_texts_in_place_of_other_tokens(self):
+        # A text with the word of a sign, a name or a closing is none of these.
+        program = parse_program(samples.WHOLE)
+        found = tokens(samples.WHOLE)
+        for index, token in enumerate(found[:-1]):
+            if token[0] != "text":
+                row = [source_of(other) for other in found]
+                row[index] = '"' + token[1] + '"'
+                source = " ".join(row)
+                at = len(" ".join(row[:index])) + (index > 0)
+                try:
+                    self.assertNotEqual(parse_program(source), program, token)
+                except InvalidSource as error:
+                    self.assertGreaterEqual(error.column, at + 1)
+                    self.assertTrue(error.message.startswith(("expected ", "unexpected end")), error.message)
+        self.check(parse_expression, 'a @"+" b', "the end")
+        self.check(parse_program, 'store a = {a: 1, @"a": 2};', "a name")
+
     def test_closings_at_the_wrong_place(self):
         self.check(parse_program, "component A() { view { @</p> } }", "a node")
         self.check(parse_program, "component A() { view { <b>if a { @</b> } } }", "a node")
@@ -167,7 +186,8 @@ class GrammarFaults(SourceCase):
             self.assertEqual(outside, 5)
 
     def test_end_of_expressions(self):
-        for source in ["[a for b in c.d if e[1]]", "{a: -1, b: !(c)}", "f(1, 2) ? do h(3) : null", "a.b[c]", "1 + 2 * 3"]:
+        for source in ["[a for b in c.d if e[1]]", "{a: -1, b: !(c)}", "f(1, 2) ? do h(3) : null", "a.b[c]",
+                       "1 + 2 * 3"]:
             found = tokens(source)
             for index in range(len(found) - 1):
                 cut = source[:found[index][3] - 1]

@@ -13,7 +13,8 @@ EXPRESSIONS = [
     ("null", ("null",)), ("true", ("true",)), ("false", ("false",)), ("0", ("number", 0)),
     (str(10 ** 30), ("number", 10 ** 30)), ('"a\\n"', ("text", "a\n")), ('""', ("text", "")), ("a", A),
     ("Main", ("name", "Main")), ("event", ("name", "event")), ("(a)", A), ("((a))", A),
-    ("[]", ("list", [])), ("[1]", ("list", [ONE])), ("[1, 2]", ("list", [ONE, TWO])), ("[[]]", ("list", [("list", [])])),
+    ("[]", ("list", [])), ("[1]", ("list", [ONE])), ("[1, 2]", ("list", [ONE, TWO])),
+    ("[[]]", ("list", [("list", [])])),
     ("{}", ("record", [])), ("{a: 1}", ("record", [("a", ONE)])), ("{a: 1, B: a}", ("record", [("a", ONE), ("B", A)])),
     ("{a: 1, a: 2}", ("record", [("a", ONE), ("a", TWO)])),
     ("a.b", ("field", A, "b")), ("a.b.C", ("field", ("field", A, "b"), "C")), ("1.b", ("field", ONE, "b")),
@@ -63,7 +64,8 @@ STATEMENTS = [
 ]
 
 NODES = [
-    ('"a"', ("text", "a")), ("{a}", ("show", A)), ('{"a"}', ("show", ("text", "a"))), ("{{}}", ("show", ("record", []))),
+    ('"a"', ("text", "a")), ("{a}", ("show", A)), ('{"a"}', ("show", ("text", "a"))),
+    ("{{}}", ("show", ("record", []))),
     ("slot", ("slot",)), ("<p/>", ("element", "p", [], [], [])), ("<p></p>", ("element", "p", [], [], [])),
     ("<h_1>slot</h_1>", ("element", "h_1", [], [], [("slot",)])),
     ('<p a="x" b={a} a={"y"}/>', ("element", "p", [("a", ("text", "x")), ("b", A), ("a", ("text", "y"))], [], [])),
@@ -80,7 +82,8 @@ NODES = [
     ("each A, B in b by 1 {}", ("each", "A", "B", B, ONE, [])),
     ("provide a = 1 {}", ("provide", "a", ONE, [])), ("provide a = b { slot }", ("provide", "a", B, [("slot",)])),
     ("await {} else {}", ("await", [], [])), ("await { slot } else { {a} }", ("await", [("slot",)], [("show", A)])),
-    ("try {} catch a {}", ("try", [], "a", [])), ("try { slot } catch a { {a} }", ("try", [("slot",)], "a", [("show", A)])),
+    ("try {} catch a {}", ("try", [], "a", [])),
+    ("try { slot } catch a { {a} }", ("try", [("slot",)], "a", [("show", A)])),
 ]
 
 COMPONENT = {

@@ -6,7 +6,8 @@ from viewloom.words.reading import parse_expression, parse_program
 # What stands between the two parts is one level below what the whole stands in; "^" stands ahead of the first token
 # of the first part that is so, too, if there is one.
 EXPRESSIONS = [
-    ("(", ")"), ("[", "]"), ("[^1, ", ", 2]"), ("f(", ")"), ("f(^1, ", ")"), ("do h(", ")"), ("a[", "]"), ("a.b[", "]"),
+    ("(", ")"), ("[", "]"), ("[^1, ", ", 2]"), ("f(", ")"), ("f(^1, ", ")"), ("do h(", ")"), ("a[", "]"),
+    ("a.b[", "]"),
     ("{^x: ", "}"), ("{^x: 1, y: ", "}"), ("[", " for a in b]"), ("[^a for a in ", "]"), ("[^a for a in b if ", "]"),
     ("a ? ", " : b"), ("a ? ^b : ", ""), ("1 + (", ")"), ("a || b ? ", " : c"),
 ]
@@ -93,7 +94,8 @@ class Levels(SourceCase):
         self.check(parse_program, "component A() { effect [] {} cleanup { @ } view {} }", STATEMENTS, 17, ["later {}"])
 
     def test_nodes(self):
-        self.check(parse_program, "component A() { view { @ } }", NODES, 17, ["slot", '"x"', "<p/>", "<P></P>", "if a {}"])
+        self.check(parse_program, "component A() { view { @ } }", NODES, 17,
+                   ["slot", '"x"', "<p/>", "<P></P>", "if a {}"])
 
     def test_names_in_parentheses(self):
         # Names stand in no deeper place than on level 3.
@@ -118,6 +120,9 @@ class Levels(SourceCase):
         parse_expression(" + ".join(nested([("(", ")")], 19, "1")[0] for _ in range(20)))
         parse_expression("[" + ", ".join(["-" * 18 + "1"] * 20) + "]")
         parse_program(component(view=nested(NODES, 17, "slot")[0] * 5))
+        lines = "handler h(a, b) { later { stop; } } effect [[a]] { log(1); } cleanup { call a(); }"
+        deep = component(lines, nested(NODES, 17, "slot")[0], parameters="a, b")
+        parse_program("store a = [-1, {a: [-1]}]; " * 25 + deep * 5)
 
     def test_attributes_stand_on_the_level_of_their_element(self):
         parse_program(component(view=nested(NODES, 17, '<p a="x"/>')[0]))
@@ -147,8 +152,10 @@ class Depths(SourceCase):
     def test_what_stands_in_an_expression(self):
         chain = "+".join(["a"] * 29)
         for ahead, behind in [
-            ("[", "]"), ("[1, ", "]"), ("{a: ", "}"), ("f(", ")"), ("f(1, ", ")"), ("do h(", ")"), ("a[", "]"), ("-(", ")"),
-            ("!(", ")"), ("a ? ", " : b"), ("a ? b : ", ""), ("", " ? a : b"), ("[", " for a in b]"), ("[1 for a in ", "]"),
+            ("[", "]"), ("[1, ", "]"), ("{a: ", "}"), ("f(", ")"), ("f(1, ", ")"), ("do h(", ")"), ("a[", "]"),
+            ("-(", ")"),
+            ("!(", ")"), ("a ? ", " : b"), ("a ? b : ", ""), ("", " ? a : b"), ("[", " for a in b]"),
+            ("[1 for a in ", "]"),
             ("[1 for a in b if ", "]"), ("", " == 1"), ("(", ").b"), ("(", ")[1]"), ("", " + a"), ("1 == ", ""),
         ]:
             parse_expression(ahead + chain + behind)
@@ -182,7 +189,8 @@ class Depths(SourceCase):
         ahead = component("handler h() { call @").index("@")
         source = component("handler h() { call " + path + ".a();")
         self.assert_fault(parse_program, source, 1, ahead + 1, "nested too deep")
-        self.assert_fault(parse_program, component("handler h() { call " + path + ".1"), 1, ahead + 61, "expected a name")
+        self.assert_fault(parse_program, component("handler h() { call " + path + ".1"), 1, ahead + 61,
+                          "expected a name")
 
     def test_levels_alone_do_not_make_depth(self):
         # Ten parentheses, and thirty operands in them.
