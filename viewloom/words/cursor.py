@@ -124,3 +124,15 @@ def read_row(cursor, begin, end, read):
     cursor.up()
     cursor.need(end)
     return found
+
+
+def read_braces(cursor, read):
+    """Returns the list of what stands between braces without commas, each read by a function."""
+    found = []
+    cursor.need("{")
+    cursor.down("}")
+    while not cursor.sees("}"):
+        found.append(read(cursor))
+    cursor.up()
+    cursor.need("}")
+    return found

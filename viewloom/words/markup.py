@@ -1,19 +1,12 @@
 """Reads the nodes of views."""
 
-from viewloom.words.cursor import CLOSING, read_name
+from viewloom.words.cursor import CLOSING, read_braces, read_name
 from viewloom.words.expressions import read_between, read_plain
 
 
 def read_nodes(cursor):
     """Returns the list of the nodes between the braces that stand here."""
-    nodes = []
-    cursor.need("{")
-    cursor.down("}")
-    while not cursor.sees("}"):
-        nodes.append(read_node(cursor))
-    cursor.up()
-    cursor.need("}")
-    return nodes
+    return read_braces(cursor, read_node)
 
 
 def read_node(cursor):

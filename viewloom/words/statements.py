@@ -1,19 +1,12 @@
 """Reads blocks and their statements."""
 
-from viewloom.words.cursor import read_name
+from viewloom.words.cursor import read_braces, read_name
 from viewloom.words.expressions import plain, read_arguments, read_path, read_plain
 
 
 def read_block(cursor):
     """Returns the list of the statements of the block that stands here."""
-    statements = []
-    cursor.need("{")
-    cursor.down("}")
-    while not cursor.sees("}"):
-        statements.append(read_statement(cursor))
-    cursor.up()
-    cursor.need("}")
-    return statements
+    return read_braces(cursor, read_statement)
 
 
 def read_statement(cursor):
