@@ -3,7 +3,7 @@
 from viewloom.checks.names import parts_of
 from viewloom.checks.scopes import Scope
 from viewloom.errors import InvalidProgram
-from viewloom.values.plain import size, values_in
+from viewloom.values.plain import members_of_all, size, wholes_in
 
 LARGEST_STORE = 2000
 MOST_MEMBERS = 200
@@ -24,9 +24,12 @@ def is_sound(program):
 
 def has_long_list(value):
     """Returns whether the value of a constant is a list of too many members, or has one in it."""
-    if isinstance(value, list) and len(value) > MOST_MEMBERS:
-        return True
-    return any([has_long_list(member) for member in values_in(value)])
+    wholes = wholes_in([value])
+    while wholes:
+        if any([isinstance(whole, list) and len(whole) > MOST_MEMBERS for whole in wholes]):
+            return True
+        wholes = wholes_in(members_of_all(wholes))
+    return False
 
 
 def has_too_many_parts(component):

@@ -31,15 +31,25 @@ def is_act(value):
     return isinstance(value, tuple)
 
 
-def values_in(value):
-    """Returns the list of the values directly in a value, in their order."""
-    if is_list(value):
-        return list(value)
-    if is_record(value):
-        return list(value.values())
-    if is_act(value):
-        return list(value[3])
-    return []
+def members_of(whole):
+    """Returns the list of the values directly in a list, a record or an act; that of a list is the list itself."""
+    if isinstance(whole, list):
+        return whole
+    if isinstance(whole, dict):
+        return list(whole.values())
+    return whole[3]
+
+
+def members_of_all(wholes):
+    """Returns the list of the values directly in lists, records and acts."""
+    rows = [members_of(whole) for whole in wholes]
+    return [part for row in rows for part in row]
+
+
+def wholes_in(values):
+    """Returns the list of the lists, records and acts among values."""
+    # Nearly all values have nothing in them. What tells them apart stands here for each, since a call would cost more.
+    return [part for part in values if not isinstance(part, int) and not isinstance(part, str) and part is not None]
 
 
 def same(a, b):
@@ -81,19 +91,44 @@ def same_records(a, b):
 
 def size(value):
     """Returns the size of a value."""
-    total = 1
-    if is_text(value):
-        total += len(value)
-    if is_record(value):
-        total += sum([len(name) for name in value])
-    if is_act(value):
-        total += len(value[2])
-    return total + sum([size(member) for member in values_in(value)])
+    total = 0
+    parts = [value]
+    while parts:
+        total += size_of_all(parts)
+        parts = members_of_all(wholes_in(parts))
+    return total
+
+
+def size_of_all(values):
+    """Returns the sizes of values together, without the sizes of the values in them."""
+    total = len(values) + sum([len(part) for part in values if isinstance(part, str)])
+    for part in wholes_in(values):
+        if isinstance(part, dict):
+            total += sum([len(name) for name in part])
+        elif isinstance(part, tuple):
+            total += len(part[2])
+    return total
 
 
 def depth(value):
     """Returns the depth of a value."""
-    return 1 + max([depth(member) for member in values_in(value)], default=0)
+    levels = 1
+    parts = members_of_all(wholes_in([value]))
+    while parts:
+        levels += 1
+        parts = members_of_all(wholes_in(parts))
+    return levels
+
+
+def is_deeper(whole, most):
+    """Returns whether the depth of a list, a record or an act is more than a number, which is at least 1."""
+    members = members_of(whole)
+    if most == 1:
+        return len(members) > 0
+    for part in wholes_in(members):
+        if is_deeper(part, most - 1):
+            return True
+    return False
 
 
 def text_of(value):
@@ -113,10 +148,13 @@ def text_of(value):
 
 def copied(value):
     """Returns a value that is the same and shares no list and no dict with it."""
-    if is_list(value):
-        return [copied(member) for member in value]
-    if is_record(value):
+    if isinstance(value, list):
+        # Like in wholes_in, what has nothing in it is told apart here.
+        return [
+            part if isinstance(part, int) or isinstance(part, str) or part is None else copied(part) for part in value
+        ]
+    if isinstance(value, dict):
         return {name: copied(value[name]) for name in value}
-    if is_act(value):
+    if isinstance(value, tuple):
         return (value[0], value[1], value[2], copied(value[3]))
     return value
