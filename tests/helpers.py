@@ -79,3 +79,39 @@ def statement(source):
 def constant(source):
     """Returns the value of the constant of a source."""
     return parse_program(f"store x = {source};")["stores"][0][1]
+
+
+def nodes(source):
+    """Returns the list of the nodes of a source."""
+    return parse_program(component(view=source))["components"][0]["view"]
+
+
+def block(source):
+    """Returns the block of a source of statements."""
+    return parse_program(component("handler h() {" + source + "}"))["components"][0]["handlers"][0][2]
+
+
+def wholes(value):
+    """Returns all lists, dicts and objects in a value, however deep."""
+    found = []
+    waiting = [value]
+    while waiting:
+        part = waiting.pop()
+        if isinstance(part, tuple):
+            waiting.extend(part)
+        elif isinstance(part, list):
+            found.append(part)
+            waiting.extend(part)
+        elif isinstance(part, dict):
+            found.append(part)
+            waiting.extend(part.values())
+        elif hasattr(part, "__dict__"):
+            found.append(part)
+            waiting.extend(vars(part).values())
+    return found
+
+
+def shares(a, b):
+    """Returns whether two values have a list, a dict or an object in common."""
+    there = {id(part) for part in wholes(a)}
+    return any(id(part) in there for part in wholes(b))

@@ -1,7 +1,7 @@
 """Looks for code in the package that is outside the subset of Python in which it is written.
 
-It is narrower than the subset where the package needs less (no lambdas, no generators, no sets and so on), and tells
-each find as a text with the file and the line.
+It is narrower than the subset where the package needs less (no lambdas, no generator expressions, no sets and so on),
+and tells each find as a text with the file and the line.
 """
 
 import ast
@@ -36,9 +36,15 @@ BARRED_ATTRIBUTES = set(
 SPECIAL_METHODS = set("__init__ __contains__ __iter__ __len__ __eq__".split())
 BARRED_NODES = (
     ast.Global, ast.Nonlocal, ast.AsyncFunctionDef, ast.AsyncFor, ast.AsyncWith, ast.Await, ast.Lambda, ast.With,
-    ast.Match, ast.Set, ast.SetComp, ast.GeneratorExp, ast.Yield, ast.YieldFrom, ast.NamedExpr, ast.Delete, ast.Div,
-    ast.MatMult, ast.Assert, ast.AnnAssign, ast.Import,
+    ast.Match, ast.Set, ast.SetComp, ast.GeneratorExp, ast.YieldFrom, ast.NamedExpr, ast.Div, ast.MatMult, ast.Assert,
+    ast.AnnAssign, ast.Import,
 )
+# What iterates over a generator, a zip and the like at once.
+ITERATING = set("list tuple sorted sum dict".split())
+# The generators that the interface names; nothing else has one of these names.
+GENERATORS = set("walk effect_order".split())
+# What may stand in a property, an operator and what they call: nothing that changes what they did not create.
+CHANGING = set("append clear extend insert pop remove reverse setdefault update sort add discard".split())
 
 
 def files():
@@ -59,6 +65,8 @@ def finds():
     found.extend(folder_finds())
     found.extend(import_finds(trees))
     found.extend(attribute_finds(trees))
+    found.extend(property_finds(trees))
+    found.extend(generator_finds(trees))
     return found
 
 
@@ -154,6 +162,97 @@ def attribute_finds(trees):
     return found
 
 
+def is_property(function):
+    return [ast.unparse(decorator) for decorator in function.decorator_list] == ["property"]
+
+
+def functions_of(trees):
+    """Returns all functions and methods of the package."""
+    return [node for tree in trees.values() for node in ast.walk(tree) if isinstance(node, ast.FunctionDef)]
+
+
+def property_finds(trees):
+    """Looks for properties, operators and what they call that assign or change something that is not local."""
+    found = []
+    functions = {}
+    for function in functions_of(trees):
+        functions.setdefault(function.name, []).append(function)
+    names = set(name for name, group in functions.items() if any(map(is_property, group)))
+    for name in sorted(names):
+        if not all(map(is_property, functions[name])):
+            found.append(f"{name} is a property and a method")
+    waiting = sorted(names | (SPECIAL_METHODS - {"__init__"}))
+    seen = set()
+    while waiting:
+        name = waiting.pop()
+        if name in seen:
+            continue
+        seen.add(name)
+        for function in functions.get(name, []):
+            found.extend(f"{function.name}:{function.lineno}: {message}" for message in changes_in(function))
+            for node in ast.walk(function):
+                if isinstance(node, ast.Call):
+                    waiting.append(node.func.id if isinstance(node.func, ast.Name) else node.func.attr)
+    for tree in trees.values():
+        for node in ast.walk(tree):
+            if isinstance(node, ast.Attribute) and isinstance(node.ctx, ast.Store) and node.attr in names:
+                found.append(f"property {node.attr} is assigned")
+            if isinstance(node, ast.Call) and isinstance(node.func, ast.Attribute) and node.func.attr in names:
+                found.append(f"property {node.func.attr} is called")
+    return found
+
+
+def changes_in(function):
+    """Returns what a function does that a property must not do."""
+    found = []
+    parameters = [argument.arg for argument in function.args.args]
+    for node in ast.walk(function):
+        if isinstance(node, (ast.Attribute, ast.Subscript)) and isinstance(node.ctx, (ast.Store, ast.Del)):
+            found.append("assigns to a part of something")
+        if isinstance(node, (ast.AugAssign, ast.Yield, ast.Global)):
+            found.append(type(node).__name__)
+        if isinstance(node, ast.Call) and isinstance(node.func, ast.Attribute) and node.func.attr in CHANGING:
+            found.append(f"calls {node.func.attr}")
+        if isinstance(node, ast.Call) and isinstance(node.func, ast.Name) and node.func.id in parameters:
+            found.append("calls what it is passed")
+    return found
+
+
+def generator_finds(trees):
+    """Looks for generators with other names, and for calls of them that are not iterated at once."""
+    found = []
+    for function in functions_of(trees):
+        yields = [node for node in ast.walk(function) if isinstance(node, ast.Yield)]
+        if bool(yields) != (function.name in GENERATORS):
+            found.append(f"{function.name}: is a generator, or has the name of one")
+        plain = [node.value for node in ast.walk(function) if isinstance(node, ast.Expr)]
+        if any(node not in plain or node.value is None for node in yields):
+            found.append(f"{function.name}: yield")
+    for path, tree in trees.items():
+        iterated = iterated_in(tree)
+        called = set()
+        for node in ast.walk(tree):
+            if isinstance(node, ast.Call) and isinstance(node.func, ast.Name) and node.func.id in GENERATORS:
+                called.add(node.func)
+                if node not in iterated:
+                    found.append(f"{path}:{node.lineno}: generator that is not iterated at once")
+        for node in ast.walk(tree):
+            if isinstance(node, ast.Name) and node.id in GENERATORS and node not in called:
+                found.append(f"{path}:{node.lineno}: generator as a value")
+    return found
+
+
+def iterated_in(tree):
+    """Returns the expressions that a loop, a comprehension or a builtin iterates over."""
+    found = []
+    for node in ast.walk(tree):
+        if isinstance(node, (ast.For, ast.comprehension)):
+            found.append(node.iter)
+        if isinstance(node, ast.Call) and isinstance(node.func, ast.Name) and node.func.id in ITERATING:
+            found.extend(node.args[:1])
+    return found
+
+
 class Look:
     """One file of the package."""
 
@@ -164,6 +263,7 @@ class Look:
         self.docs = set()
         self.imported = [alias.name for node in tree.body if isinstance(node, ast.ImportFrom) for alias in node.names]
         self.own = bound_names(tree)
+        self.iterated = iterated_in(tree)
         self.arity = {node.name: node.args for node in tree.body if isinstance(node, ast.FunctionDef)}
 
     def tell(self, node, message):
@@ -218,19 +318,23 @@ class Look:
     def look_at_functiondef(self, node):
         if node.end_lineno - node.lineno + 1 > 40:
             self.tell(node, "long function")
-        if node.decorator_list or node.returns:
+        if node.decorator_list and not is_property(node) or node.returns:
             self.tell(node, "decorator or annotation")
         if isinstance(node.body[0], ast.Expr) and isinstance(node.body[0].value, ast.Constant):
             self.docs.add(node.body[0].value)
         arguments = node.args
-        if arguments.vararg or arguments.kwarg or arguments.posonlyargs or arguments.defaults or arguments.kwonlyargs:
+        if arguments.vararg or arguments.kwarg or arguments.posonlyargs or arguments.defaults:
             self.tell(node, "parameters")
+        if arguments.kwonlyargs and (node.name in METHODS or node.name.startswith("__") and node.name != "__init__"):
+            self.tell(node, "parameters that are passed by keyword")
+        if any(value is not None and not isinstance(value, ast.Constant) for value in arguments.kw_defaults):
+            self.tell(node, "default value")
         for part in ast.walk(node):
             if part is not node and isinstance(part, (ast.FunctionDef, ast.ClassDef)):
                 self.tell(part, "nested")
             if isinstance(part, ast.Name) and isinstance(part.ctx, ast.Store):
                 self.look_at_name_bound(part, part.id)
-        for argument in arguments.args:
+        for argument in arguments.args + arguments.kwonlyargs:
             if argument.annotation:
                 self.tell(node, "annotation")
             self.look_at_name_bound(node, argument.arg)
@@ -268,7 +372,7 @@ class Look:
                 self.tell(part, "part of a class")
 
     def look_at_name(self, node):
-        if isinstance(node.ctx, ast.Load) and hasattr(builtins, node.id) and node.id not in BUILTINS:
+        if isinstance(node.ctx, ast.Load) and hasattr(builtins, node.id) and node.id not in BUILTINS | {"property"}:
             self.tell(node, f"builtin {node.id}")
         if node.id == "_" and isinstance(node.ctx, ast.Load):
             self.tell(node, "_ is read")
@@ -288,21 +392,20 @@ class Look:
     def look_at_plain_call(self, node):
         name = node.func.id
         keywords = [keyword.arg for keyword in node.keywords]
-        if keywords and (name, keywords) != ("max", ["default"]):
+        if keywords and name in BUILTINS and (name, keywords) != ("max", ["default"]):
             self.tell(node, "keywords")
+        if name in self.arity:
+            wanted = [argument.arg for argument in self.arity[name].kwonlyargs]
+            if not set(keywords) <= set(wanted):
+                self.tell(node, "keywords")
         if name in self.arity and len(node.args) != len(self.arity[name].args):
             self.tell(node, "number of arguments")
-        if name in ("zip", "enumerate", "reversed", "range") and not self.is_iterated(node):
+        if name in ("zip", "enumerate", "reversed", "range") and node not in self.iterated:
             self.tell(node, f"{name} that is not iterated at once")
 
-    def is_iterated(self, node):
-        for other in ast.walk(self.tree):
-            if isinstance(other, (ast.For, ast.comprehension)) and other.iter is node:
-                return True
-            if isinstance(other, ast.Call) and isinstance(other.func, ast.Name) and node in other.args[:1]:
-                if other.func.id in ("list", "tuple", "sorted", "sum", "dict"):
-                    return True
-        return False
+    def look_at_delete(self, node):
+        if not all(isinstance(target, ast.Subscript) for target in node.targets):
+            self.tell(node, "del")
 
     def look_at_try(self, node):
         if node.finalbody:

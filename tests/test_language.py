@@ -24,19 +24,42 @@ INTERFACE = {
     "values/plain.py": ["same(a, b)", "size(value)", "depth(value)", "text_of(value)", "copied(value)"],
     "values/functions.py": ["call_function(name, arguments)"],
     "values/evaluating.py": ["evaluate(expression, environment, owner)"],
+    "views/describing.py": ["describe(nodes, environment, owner, slot)", "member_key(value)"],
+    "views/kinds.py": [
+        "kind_of(description)", "weight(description)", "same_description(a, b)", "same_descriptions(a, b)",
+        "keys_differ(descriptions)",
+    ],
+    "documents/nodes.py": [
+        "is_document(document)", "ids_of(document)", "walk(document)", "find_node(document, number)",
+        "kids_of(document, parent)",
+    ],
+    "documents/operations.py": [
+        "fault_of(document, operation)", "apply_operation(document, operation)", "apply_all(document, operations)",
+    ],
+    "documents/rising.py": ["best_row(numbers)"],
+    "documents/patches.py": ["kept_ids(old, new)", "patch(old, new)", "is_careful(old, new, operations)"],
+    "lanes/schedule.py": [
+        "lane_number(name)", "Schedule", "Schedule.SYNC", "Schedule.USUAL", "Schedule.TRANSITION", "Schedule.IDLE",
+        "Schedule.PATIENCE", "Schedule.NAMES", "Schedule.__init__(self)", "Schedule.pending", "Schedule.done",
+        "Schedule.wake(self, lane, *, now)", "Schedule.is_overdue(self, lane, *, now)",
+        "Schedule.next_pass(self, *, now)", "Schedule.portion(self, cost)", "Schedule.give_up(self)",
+        "Schedule.end(self, lanes)", "Schedule.clear(self)", "Schedule.__contains__(self, lane)",
+    ],
     "server/reading.py": ["read_tree(text)"],
 }
 
 
 def heads(tree, ahead=""):
-    """Returns the names of the classes, and the names and parameters of the functions and methods of a file."""
+    """Returns the names of the classes, their values and properties, and the functions and methods of a file."""
     found = []
     for node in tree.body:
         if isinstance(node, ast.ClassDef):
             found.append(ahead + node.name)
             found.extend(heads(node, node.name + "."))
+        if isinstance(node, ast.Assign) and ahead:
+            found.append(ahead + node.targets[0].id)
         if isinstance(node, ast.FunctionDef):
-            found.append(f"{ahead}{node.name}({', '.join(argument.arg for argument in node.args.args)})")
+            found.append(ahead + node.name if node.decorator_list else f"{ahead}{node.name}({ast.unparse(node.args)})")
     return found
 
 

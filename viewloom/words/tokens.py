@@ -33,7 +33,7 @@ class Scanner:
     def __init__(self, source):
         # One newline more than the source has ends each token, so that no place behind it is looked at.
         self.source = source + "\n"
-        self.end = len(source)
+        self.length = len(source)
         self.at = 0
         self.line = 1
         self.line_begin = 0
@@ -48,7 +48,7 @@ class Scanner:
 
     def skip(self):
         """Goes on behind the spaces, newlines and comments that stand here."""
-        while self.at < self.end:
+        while self.at < self.length:
             sign = self.source[self.at]
             if sign == "\n":
                 self.line += 1
@@ -71,7 +71,7 @@ class Scanner:
     def next_sort(self):
         """Returns the sort of the token that begins here."""
         sign = self.source[self.at]
-        if self.at == self.end:
+        if self.at == self.length:
             return "end"
         if is_letter(sign):
             return "word"

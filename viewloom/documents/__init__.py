@@ -1,0 +1,1 @@
+"""Documents, operations and patches."""

@@ -1,0 +1,1 @@
+"""Lanes and their schedule."""

@@ -1,0 +1,1 @@
+"""Descriptions of what is to be shown."""
