@@ -40,7 +40,7 @@ BARRED_NODES = (
     ast.AnnAssign, ast.Import,
 )
 # What iterates over a generator, a zip and the like at once.
-ITERATING = set("list tuple sorted sum dict".split())
+ITERATING = set("list tuple sorted sum dict enumerate zip".split())
 # The generators that the interface names; nothing else has one of these names.
 GENERATORS = set("walk effect_order".split())
 # What may stand in a property, an operator and what they call: nothing that changes what they did not create.
@@ -372,7 +372,7 @@ class Look:
                 self.tell(part, "part of a class")
 
     def look_at_name(self, node):
-        if isinstance(node.ctx, ast.Load) and hasattr(builtins, node.id) and node.id not in BUILTINS | {"property"}:
+        if isinstance(node.ctx, ast.Load) and hasattr(builtins, node.id) and node.id not in BUILTINS | {"property", "NotImplemented"}:
             self.tell(node, f"builtin {node.id}")
         if node.id == "_" and isinstance(node.ctx, ast.Load):
             self.tell(node, "_ is read")

@@ -45,6 +45,30 @@ INTERFACE = {
         "Schedule.next_pass(self, *, now)", "Schedule.portion(self, cost)", "Schedule.give_up(self)",
         "Schedule.end(self, lanes)", "Schedule.clear(self)", "Schedule.__contains__(self, lane)",
     ],
+    "passes/cells.py": [
+        "Cell", "Cell.__init__(self, name, value)", "Cell.present", "Cell.waiting", "Cell.open_lanes",
+        "Cell.send(self, lane, expression, environment)", "Cell.processed(self, lanes, *, owner)", "Cell.copied(self)",
+        "Cell.__eq__(self, other)",
+    ],
+    "passes/instances.py": [
+        "Instance", "Instance.__init__(self, form, number, key, *, name=None)", "Instance.all_kids",
+        "Instance.shown_kids", "walk(instances)", "find(instances, number)", "parent_of(instances, number)",
+        "copied(instances)", "image(instances)",
+    ],
+    "passes/passing.py": [
+        "Pass", "Pass.__init__(self, program, lanes, *, stores, answers, next_id, anew=False)",
+        "Pass.run(self, component, values, tree)", "Pass.cost",
+    ],
+    "commits/performing.py": [
+        "Performance", "perform(program, tree, block, *, owner, environment, lane, event=None, budget=500)",
+        "perform_act(program, tree, act, arguments, *, lane, event=None, budget=500)",
+    ],
+    "commits/effects.py": ["effect_order(instances)", "plan(before, behind)"],
+    "commits/timers.py": [
+        "Timers", "Timers.__init__(self)", "Timers.told", "Timers.next_due(self)", "Timers.fire(self)",
+        "Timers.start(self, owner, *, now, ticks, again, lane, environment, block, run=0)",
+        "Timers.end_run(self, run)", "Timers.end_owners(self, ids)", "Timers.clear(self)", "Timers.__len__(self)",
+    ],
     "server/reading.py": ["read_tree(text)"],
 }
 

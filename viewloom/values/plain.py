@@ -52,6 +52,16 @@ def wholes_in(values):
     return [part for part in values if not isinstance(part, int) and not isinstance(part, str) and part is not None]
 
 
+def has_act(value):
+    """Returns whether a value is an act or has one in it."""
+    wholes = wholes_in([value])
+    while wholes:
+        if any([is_act(whole) for whole in wholes]):
+            return True
+        wholes = wholes_in(members_of_all(wholes))
+    return False
+
+
 def same(a, b):
     """Returns whether two values are the same."""
     if is_list(a):
@@ -148,13 +158,18 @@ def text_of(value):
 
 def copied(value):
     """Returns a value that is the same and shares no list and no dict with it."""
+    return copy_of(value)
+
+
+def copy_of(value):
+    """Returns a copy of a value."""
     if isinstance(value, list):
         # Like in wholes_in, what has nothing in it is told apart here.
         return [
-            part if isinstance(part, int) or isinstance(part, str) or part is None else copied(part) for part in value
+            part if isinstance(part, int) or isinstance(part, str) or part is None else copy_of(part) for part in value
         ]
     if isinstance(value, dict):
-        return {name: copied(value[name]) for name in value}
+        return {name: copy_of(value[name]) for name in value}
     if isinstance(value, tuple):
-        return (value[0], value[1], value[2], copied(value[3]))
+        return (value[0], value[1], value[2], copy_of(value[3]))
     return value

@@ -1,16 +1,7 @@
-"""Copies of descriptions, which share no list and no dict with them except the nodes of a try."""
+"""Copies of descriptions, which share no list and no dict with them."""
 
+from viewloom.values.copies import copied_names, copied_pairs, copied_source
 from viewloom.values.plain import copied
-
-
-def copied_names(environment):
-    """Returns an environment that is the same and shares no list and no dict with it."""
-    return {name: copied(environment[name]) for name in environment}
-
-
-def copied_pairs(pairs):
-    """Returns a tuple of pairs of the same names and copies of their values."""
-    return tuple([(name, copied(value)) for name, value in pairs])
 
 
 def copied_descriptions(descriptions):
@@ -37,4 +28,5 @@ def copied_description(description):
         return (form, key, copied_descriptions(kids), copied_descriptions(fallback))
     _, key, kids, name, nodes, environment, owner, slot = description
     kids = copied_descriptions(kids)
-    return (form, key, kids, name, nodes, copied_names(environment), owner, copied_descriptions(slot))
+    slot = copied_descriptions(slot)
+    return (form, key, kids, name, copied_source(nodes), copied_names(environment), owner, slot)

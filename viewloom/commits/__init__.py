@@ -1,0 +1,1 @@
+"""What a commit does: statements, effects and timers."""

@@ -1,0 +1,82 @@
+"""Timers."""
+
+from viewloom.values.copies import copied_names, copied_source
+
+MOST_TIMERS = 20
+
+
+class Timer:
+    """A timer that runs; its period is 0 if it ends when it fires."""
+
+    def __init__(self, number, due, period, run):
+        self.number = number
+        self.due = due
+        self.period = period
+        self.run_number = run
+        self.owner = None
+        self.lane = None
+        self.environment = {}
+        self.block = []
+
+
+class Timers:
+    """The timers that run, in the order in which they fire."""
+
+    def __init__(self):
+        self.running = []
+        self.last = 0
+
+    def __len__(self):
+        """Returns the number of timers."""
+        return len(self.running)
+
+    @property
+    def told(self):
+        """The list of the numbers, due ticks and periods of the timers."""
+        return [(timer.number, timer.due, timer.period) for timer in self.running]
+
+    def start(self, owner, *, now, ticks, again, lane, environment, block, run=0):
+        """Starts a timer, unless as many as can run do; returns its number or None."""
+        if len(self.running) >= MOST_TIMERS:
+            return None
+        self.last += 1
+        timer = Timer(self.last, now + ticks, ticks if again else 0, run)
+        timer.owner = owner
+        timer.lane = lane
+        timer.environment = copied_names(environment)
+        timer.block = copied_source(block)
+        self.put(timer)
+        return timer.number
+
+    def put(self, timer):
+        """Puts a timer to its place among those that run."""
+        earlier = [other for other in self.running if (other.due, other.number) < (timer.due, timer.number)]
+        self.running.insert(len(earlier), timer)
+
+    def next_due(self):
+        """Returns the tick at which the timer that fires next is due, or None."""
+        if not self.running:
+            return None
+        return self.running[0].due
+
+    def fire(self):
+        """Ends or renews the timer that fires next; returns what it performs, or None."""
+        if not self.running:
+            return None
+        timer = self.running.pop(0)
+        if timer.period > 0:
+            timer.due += timer.period
+            self.put(timer)
+        return (timer.owner, timer.lane, copied_names(timer.environment), copied_source(timer.block), timer.run_number)
+
+    def end_run(self, run):
+        """Ends the timers that belong to a run."""
+        self.running = [timer for timer in self.running if timer.run_number != run]
+
+    def end_owners(self, ids):
+        """Ends the timers of some owners."""
+        self.running = [timer for timer in self.running if timer.owner not in ids]
+
+    def clear(self):
+        """Ends all timers."""
+        self.running = []

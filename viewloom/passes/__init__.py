@@ -1,0 +1,1 @@
+"""Passes, which make trees of instances."""
