@@ -13,12 +13,13 @@ ENVIRONMENT = {
     "nil": None, "yes": True, "no": False, "n": 7, "m": -3, "t": "abc", "e": "", "l": [1, "two", [3]],
     "row": ["a", "b"], "r": {"x": 1, "y": [2]}, "act": ACT, "none": [], "many": list(range(200)),
 }
+USE = ("use", "9", "C", (("x", [[7]]),), ())
 SLOT = (
     ("text", "0", "in"),
-    ("element", "1", "p", (), (("click", ("act", 9, "h", [[1]])),), (("text", "0", "deep"),)),
-    ("use", "2", "B", (("a", [1]), ("b", {"x": [2]})), (("provide", "0", "c", [3], ()),)),
-    ("await", "3", (("text", "0", "a"),), (("text", "0", "b"),)),
-    ("try", "4", (), "f", [("text", "x")], {"v": [4]}, 9, (("text", "0", "s"),)),
+    ("element", "1", "p", (), (("click", ("act", 9, "h", [[1]])),), (("text", "0", "deep"), USE)),
+    ("use", "2", "B", (("a", [1]), ("b", {"x": [2]})), (("provide", "0", "c", [3], (USE,)), USE)),
+    ("await", "3", (("text", "0", "a"), USE), (("text", "0", "b"), USE)),
+    ("try", "4", (USE,), "f", [("text", "x")], {"v": [4]}, 9, (("text", "0", "s"), USE)),
 )
 
 
@@ -344,6 +345,7 @@ class Bounds(unittest.TestCase):
 
 
 class Sharing(unittest.TestCase):
+    # No try stands in it: the environment of one has the same values.
     SOURCE = ('<p a={t} on click={do go(l)} on b={act}>"a" slot</p> <B a={l} b={r}>{n} slot</B> provide c = l { slot }'
               ' each x in l by text(x == 1) + text(x == "two") { <B a={x}/> } await { <B a={l}/> } else { <B a={l}/> }'
               ' slot slot')
@@ -357,9 +359,8 @@ class Sharing(unittest.TestCase):
         first = copy.deepcopy(found)
         self.assertEqual(repr((tree, environment, slot)), repr(kept))
         self.assertFalse(shares(found, environment))
-        # A try that was handed in keeps its nodes and its own slot alone.
-        self.assertFalse(shares([part for part in found if part[0] != "try"], slot[:4]))
-        self.assertFalse(shares([part[5] for part in found if part[0] == "try"], slot))
+        self.assertFalse(shares(found, slot))
+        self.assertFalse(shares(found, tree))
         for part in found:
             if part[0] == "use":
                 for _, value in part[3]:

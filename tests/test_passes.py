@@ -200,6 +200,19 @@ class Matching(unittest.TestCase):
         self.assertEqual(told([tree]), kept)
         self.assertEqual((show.program, show.stores, show.answers), before)
 
+    def test_components_are_left_out_unless_it_is_said(self):
+        show = Show("component Main() { state n = 0; view {} }")
+        show.go()
+        for more, rendered in [({}, []), ({"anew": False}, []), ({"anew": True}, [1])]:
+            made = Pass(show.program, [1], stores={}, answers=[], next_id=2, **more)
+            self.assertEqual(made.run("Main", {}, show.tree)[0], "tree")
+            self.assertEqual(made.rendered, rendered)
+        show.send("Main", "n", ("number", 7))
+        lanes = [1]
+        made = Pass(show.program, lanes, stores={}, answers=[], next_id=2)
+        lanes.clear()
+        self.assertEqual(made.run("Main", {}, show.tree)[1].env, {"n": 7})
+
     def test_what_is_passed_may_be_changed(self):
         parsed = Show("store s = [1]; component Main(p) { resource r = 1; view { {length(s) + length(p) + length(r)} } }")
         stores, answers, lanes, values = {"s": [1]}, [(1, ("value", [3]))], [1], {"p": [2]}

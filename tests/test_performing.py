@@ -6,7 +6,7 @@ import unittest
 from tests.helpers import block, expression, shares
 from tests.passes import Show, told
 from viewloom.commits.performing import Performance, perform, perform_act
-from viewloom.passes.instances import find, walk
+from viewloom.passes.instances import Instance, find, walk
 
 SOURCE = """
 store total = 1;
@@ -78,6 +78,7 @@ class Statements(Shown):
     def test_set(self):
         self.assertEqual(self.deeds("n = x + 1;"), [("send", 1, "n", 1, expression("x + 1"), self.env)])
         self.assertEqual(self.deeds("n = n / 0;", lane=3), [("send", 1, "n", 3, expression("n / 0"), self.env)])
+        self.assertEqual(self.deeds("n = max(n, [x][0]);"), [("send", 1, "n", 1, expression("max(n, [x][0])"), self.env)])
         self.assertEqual(self.deeds("total = x + 1;"), [("store", "total", 2)])
         self.assertEqual(self.deeds("list = l + [do go(x)];"), [("store", "list", [1, 2, ("act", 1, "go", [1])])])
         # It is a cell, if it is a cell and a store; nothing is done if it is neither.
@@ -194,6 +195,15 @@ class Acts(Shown):
             done = self.perform("call a(1); stop;", environment={"a": act})
             self.assertEqual((done.deeds, done.fault, done.left), ([("stop",)], None, 498))
         self.assertEqual(perform_act(self.program, [], ("act", 1, "add", []), [], lane=1).deeds, [])
+
+    def test_of_what_is_called_like_a_component(self):
+        # An element or a provide of this name is no component.
+        for form in ("element", "provide"):
+            tree = [Instance(form, 1, "", name="Main")]
+            done = perform_act(self.program, tree, ("act", 1, "none", []), [], lane=1)
+            self.assertEqual((done.deeds, done.fault, done.left), ([], None, 500))
+            done = perform_act(self.program, tree, ("act", 1, "add", [1, 2]), [], lane=1)
+            self.assertEqual((done.deeds, done.fault, done.left), ([], None, 500))
 
     def test_of_what_is_hidden(self):
         hid = self.show.named("Hid").number

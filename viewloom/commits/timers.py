@@ -8,15 +8,17 @@ MOST_TIMERS = 20
 class Timer:
     """A timer that runs; its period is 0 if it ends when it fires."""
 
-    def __init__(self, number, due, period, run):
+    def __init__(self, number, due, period, owner, performed):
         self.number = number
         self.due = due
         self.period = period
-        self.run_number = run
-        self.owner = None
-        self.lane = None
-        self.environment = {}
-        self.block = []
+        self.owner = owner
+        # The lane, the environment, the block, and the run to which it belongs.
+        self.performed = performed
+
+    def belongs_to(self, run):
+        """Returns whether the timer belongs to a run."""
+        return self.performed[3] == run
 
 
 class Timers:
@@ -40,11 +42,8 @@ class Timers:
         if len(self.running) >= MOST_TIMERS:
             return None
         self.last += 1
-        timer = Timer(self.last, now + ticks, ticks if again else 0, run)
-        timer.owner = owner
-        timer.lane = lane
-        timer.environment = copied_names(environment)
-        timer.block = copied_source(block)
+        performed = (lane, copied_names(environment), copied_source(block), run)
+        timer = Timer(self.last, now + ticks, ticks if again else 0, owner, performed)
         self.put(timer)
         return timer.number
 
@@ -67,11 +66,12 @@ class Timers:
         if timer.period > 0:
             timer.due += timer.period
             self.put(timer)
-        return (timer.owner, timer.lane, copied_names(timer.environment), copied_source(timer.block), timer.run_number)
+        lane, environment, block, run = timer.performed
+        return (timer.owner, lane, copied_names(environment), copied_source(block), run)
 
     def end_run(self, run):
         """Ends the timers that belong to a run."""
-        self.running = [timer for timer in self.running if timer.run_number != run]
+        self.running = [timer for timer in self.running if not timer.belongs_to(run)]
 
     def end_owners(self, ids):
         """Ends the timers of some owners."""

@@ -71,5 +71,5 @@ def level_of(document, number):
 
 
 def height_of(document):
-    """Returns the number of levels of a document."""
-    return max([level for level, _ in walk(document)], default=0)
+    """Returns the number of levels of a document, which has a node."""
+    return max([level for level, _ in walk(document)])

@@ -58,7 +58,7 @@ class Cell:
 
     def processed(self, lanes, *, owner):
         """Returns a new cell, in which the updates of some lanes are marked and all marked ones are applied."""
-        base = copy_of(self.base)
+        base = self.base
         value = base
         rest = []
         for update in self.queue:

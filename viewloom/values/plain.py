@@ -64,18 +64,17 @@ def has_act(value):
 
 def same(a, b):
     """Returns whether two values are the same."""
-    if is_list(a):
-        return is_list(b) and same_lists(a, b)
-    if is_record(a):
-        return is_record(b) and same_records(a, b)
-    if is_act(a):
-        return is_act(b) and a[1] == b[1] and a[2] == b[2] and same_lists(a[3], b[3])
-    if is_truth(a):
-        return is_truth(b) and a == b
-    if is_number(a):
-        return is_number(b) and a == b
-    if is_text(a):
-        return is_text(b) and a == b
+    # For Python, True and False are integers that are equal to 1 and 0.
+    if isinstance(a, int):
+        return isinstance(b, int) and isinstance(a, bool) == isinstance(b, bool) and a == b
+    if isinstance(a, str):
+        return isinstance(b, str) and a == b
+    if isinstance(a, list):
+        return isinstance(b, list) and same_lists(a, b)
+    if isinstance(a, dict):
+        return isinstance(b, dict) and same_records(a, b)
+    if isinstance(a, tuple):
+        return isinstance(b, tuple) and a[1] == b[1] and a[2] == b[2] and same_lists(a[3], b[3])
     return b is None
 
 
