@@ -50,10 +50,11 @@ class Shown(unittest.TestCase):
         tree = self.tree
         kept = copy.deepcopy((self.program, self.env)), told(tree)
         given = more.pop("environment", self.env)
-        done = perform(self.program, tree, block(source) if isinstance(source, str) else source, owner=owner,
-                       environment=given, lane=lane, **more)
+        statements = block(source)
+        done = perform(self.program, tree, statements, owner=owner, environment=given, lane=lane, **more)
         self.assertIsInstance(done, Performance)
-        self.assertFalse(shares([self.program, tree, self.env, more], done.deeds))
+        self.assertEqual(statements, block(source))
+        self.assertFalse(shares([self.program, tree, statements, given, more], done.deeds))
         self.assertEqual(((self.program, self.env), told(tree)), kept)
         return done
 
