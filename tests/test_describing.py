@@ -345,10 +345,9 @@ class Bounds(unittest.TestCase):
 
 
 class Sharing(unittest.TestCase):
-    # No try stands in it: the environment of one has the same values.
     SOURCE = ('<p a={t} on click={do go(l)} on b={act}>"a" slot</p> <B a={l} b={r}>{n} slot</B> provide c = l { slot }'
               ' each x in l by text(x == 1) + text(x == "two") { <B a={x}/> } await { <B a={l}/> } else { <B a={l}/> }'
-              ' slot slot')
+              ' slot slot try { <B a={l}/> slot } catch f { {f} } each x in [l, [l]] { try {} catch f { {x} } }')
 
     def test_nothing_is_changed_or_shared(self):
         tree = nodes(self.SOURCE)
@@ -373,13 +372,30 @@ class Sharing(unittest.TestCase):
         self.assertEqual(repr((tree, environment, slot)), repr(kept))
         self.assertEqual(repr(describe(tree, environment, 5, slot)), repr(first))
 
-    def test_the_environment_of_a_try_is_new(self):
+    def test_what_a_try_keeps_is_its_own(self):
         environment = copy.deepcopy(ENVIRONMENT)
-        found = describe(nodes("try {} catch f {} try {} catch g {} slot"), environment, 5, SLOT[4:])
-        for part in found:
+        slot = copy.deepcopy(SLOT)
+        tree = nodes("try {} catch f { \"a\" } try {} catch g {} slot each x in [l, l] { try {} catch f {} }")
+        found = [part for part in describe(tree, environment, 5, slot) if part[0] == "try"]
+        self.assertEqual(len(found), 5)
+        first = copy.deepcopy(found)
+        for index, part in enumerate(found):
+            self.assertEqual(repr(part), repr(first[index]))
+            part[4].append(("slot",))
             part[5]["more"] = 1
+            for one in part[5].values():
+                if isinstance(one, (list, dict)):
+                    one.clear()
+            for inner in part[7]:
+                if inner[0] == "provide":
+                    inner[3].append(1)
+                if inner[0] == "use":
+                    inner[3][0][1].append(1)
         self.assertEqual(environment, ENVIRONMENT)
-        self.assertEqual(SLOT[4][5], {"v": [4]})
+        self.assertEqual(slot, SLOT)
+        self.assertEqual(tree, nodes(
+            "try {} catch f { \"a\" } try {} catch g {} slot each x in [l, l] { try {} catch f {} }"
+        ))
 
     def test_nothing_changes_behind_a_fault(self):
         for source, message in Faults.FAULTS:

@@ -5,7 +5,7 @@ the descriptions that stand there, in their order.
 """
 
 from viewloom.errors import Fault
-from viewloom.values.copies import copied_source
+from viewloom.values.copies import copied_names, copied_source
 from viewloom.values.evaluating import evaluate, value_of
 from viewloom.values.needs import need_list, need_truth
 from viewloom.values.plain import is_act, is_number, is_text, text_of
@@ -162,8 +162,9 @@ def describe_try(node, place, environment, owner, slot):
     """Describes what shows other nodes when it fails."""
     _, nodes, name, other = node
     kids = describe(nodes, environment, owner, slot)
-    # What is described later is kept apart from the program.
-    return [("try", place, kids, name, copied_source(other), dict(environment), owner, slot)]
+    # What is described later is kept apart from the program, and from what else may be changed until then.
+    kept = (copied_source(other), copied_names(environment), owner, copied_descriptions(slot))
+    return [("try", place, kids, name, *kept)]
 
 
 ACTIONS = {
