@@ -327,8 +327,10 @@ class Look:
             self.tell(node, "parameters")
         if arguments.kwonlyargs and (node.name in METHODS or node.name.startswith("__") and node.name != "__init__"):
             self.tell(node, "parameters that are passed by keyword")
-        if any(value is not None and not isinstance(value, ast.Constant) for value in arguments.kw_defaults):
-            self.tell(node, "default value")
+        for value in arguments.kw_defaults:
+            empty = isinstance(value, ast.Tuple) and not value.elts
+            if value is not None and not isinstance(value, ast.Constant) and not empty:
+                self.tell(node, "default value")
         for part in ast.walk(node):
             if part is not node and isinstance(part, (ast.FunctionDef, ast.ClassDef)):
                 self.tell(part, "nested")

@@ -69,6 +69,24 @@ INTERFACE = {
         "Timers.start(self, owner, *, now, ticks, again, lane, environment, block, run=0)",
         "Timers.end_run(self, run)", "Timers.end_owners(self, ids)", "Timers.clear(self)", "Timers.__len__(self)",
     ],
+    "events/paths.py": [
+        "path_of(document, number)", "is_disabled(document, number)", "attribute_of(document, number, name)",
+    ],
+    "events/hearing.py": ["hearers(acts, path, event)", "lane_of(event)", "can_prevent(event)"],
+    "events/controls.py": [
+        "kind_of_control(node)", "Controls", "Controls.__init__(self)", "Controls.__len__(self)",
+        "Controls.__contains__(self, number)", "Controls.settle(self, document)", "Controls.shown(self, number)",
+        "Controls.show(self, number, value)", "Controls.record_of(self, document, number, event, details)",
+        "Controls.fork(self)",
+    ],
+    "events/gestures.py": [
+        "click(root, number)", "enter(root, number, text)", "clear(root, number)", "choose(root, number, value)",
+    ],
+    "events/rehearsal.py": [
+        "Rehearsal", "Rehearsal.__init__(self, document, *, prevented=())",
+        "Rehearsal.send_event(self, number, event, details)",
+    ],
+    "server/writing.py": ["write_tree(nodes)", "plain_text(nodes)"],
     "server/reading.py": ["read_tree(text)"],
 }
 

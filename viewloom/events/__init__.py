@@ -1,0 +1,1 @@
+"""Events, controls and gestures."""
