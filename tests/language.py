@@ -149,17 +149,27 @@ def attribute_finds(trees):
     for tree in trees.values():
         for node in ast.walk(tree):
             if isinstance(node, ast.ClassDef):
-                methods.update(part.name for part in node.body if isinstance(part, ast.FunctionDef))
+                own = {part.name for part in node.body if isinstance(part, ast.FunctionDef)}
+                methods |= own
                 assigned.update(part.targets[0].id for part in node.body if isinstance(part, ast.Assign))
+                # In other classes a name may be both.
+                found.extend(f"{name} is a method and an attribute" for name in sorted(own & own_attributes(node)))
             if isinstance(node, ast.Attribute):
                 (assigned if isinstance(node.ctx, ast.Store) else read).add(node.attr)
-    for name in sorted(methods & assigned):
-        found.append(f"{name} is a method and an attribute")
     for name in sorted(read - assigned - methods - METHODS):
         found.append(f"{name} is read and never assigned")
     for name in sorted(assigned & (BARRED_ATTRIBUTES | UNUSED_EVERYWHERE)):
         found.append(f"{name} is no name of an attribute")
     return found
+
+
+def own_attributes(owner):
+    """Returns the names of the attributes that the methods of a class assign to its objects."""
+    return {
+        node.attr for node in ast.walk(owner)
+        if isinstance(node, ast.Attribute) and isinstance(node.ctx, ast.Store)
+        and isinstance(node.value, ast.Name) and node.value.id == "self"
+    }
 
 
 def is_property(function):
@@ -206,9 +216,11 @@ def changes_in(function):
     """Returns what a function does that a property must not do."""
     found = []
     parameters = [argument.arg for argument in function.args.args]
+    created = created_in(function)
     for node in ast.walk(function):
         if isinstance(node, (ast.Attribute, ast.Subscript)) and isinstance(node.ctx, (ast.Store, ast.Del)):
-            found.append("assigns to a part of something")
+            if not (isinstance(node, ast.Attribute) and isinstance(node.value, ast.Name) and node.value.id in created):
+                found.append("assigns to a part of something")
         if isinstance(node, (ast.AugAssign, ast.Yield, ast.Global)):
             found.append(type(node).__name__)
         if isinstance(node, ast.Call) and isinstance(node.func, ast.Attribute) and node.func.attr in CHANGING:
@@ -216,6 +228,18 @@ def changes_in(function):
         if isinstance(node, ast.Call) and isinstance(node.func, ast.Name) and node.func.id in parameters:
             found.append("calls what it is passed")
     return found
+
+
+def created_in(function):
+    """Returns the names of the local variables that are assigned only a new object of an own class."""
+    values = {}
+    for node in ast.walk(function):
+        if isinstance(node, ast.Assign) and isinstance(node.targets[0], ast.Name):
+            values.setdefault(node.targets[0].id, []).append(node.value)
+    return {
+        name for name, given in values.items()
+        if all(isinstance(one, ast.Call) and isinstance(one.func, ast.Name) and one.func.id[0].isupper() for one in given)
+    }
 
 
 def generator_finds(trees):
@@ -323,11 +347,11 @@ class Look:
         if isinstance(node.body[0], ast.Expr) and isinstance(node.body[0].value, ast.Constant):
             self.docs.add(node.body[0].value)
         arguments = node.args
-        if arguments.vararg or arguments.kwarg or arguments.posonlyargs or arguments.defaults:
+        if arguments.vararg or arguments.kwarg or arguments.posonlyargs:
             self.tell(node, "parameters")
         if arguments.kwonlyargs and (node.name in METHODS or node.name.startswith("__") and node.name != "__init__"):
             self.tell(node, "parameters that are passed by keyword")
-        for value in arguments.kw_defaults:
+        for value in arguments.defaults + arguments.kw_defaults:
             empty = isinstance(value, ast.Tuple) and not value.elts
             if value is not None and not isinstance(value, ast.Constant) and not empty:
                 self.tell(node, "default value")
@@ -388,7 +412,7 @@ class Look:
                     self.tell(node, "method of a call")
         else:
             self.tell(node, "call")
-        if any(isinstance(argument, ast.Starred) for argument in node.args):
+        if any(isinstance(argument, ast.Starred) and not isinstance(argument.value, ast.Name) for argument in node.args):
             self.tell(node, "star in a call")
 
     def look_at_plain_call(self, node):

@@ -56,6 +56,15 @@ def walk(instances):
         waiting += list(reversed(instance.all_kids))
 
 
+def shown_instances(instances):
+    """Returns the list of the instances that are shown if these are, each before its members, in order."""
+    shown = []
+    for instance in instances:
+        shown.append(instance)
+        shown += shown_instances(instance.shown_kids)
+    return shown
+
+
 def find(instances, number):
     """Returns the instance with an id, or None."""
     for instance in walk(instances):

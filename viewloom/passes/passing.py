@@ -5,6 +5,7 @@ from viewloom.lanes.schedule import Schedule
 from viewloom.passes.cells import Cell
 from viewloom.passes.instances import Instance, copied, copied_runs, copy_rendering, walk
 from viewloom.passes.outcomes import Holds, Waits
+from viewloom.passes.programs import has_resources
 from viewloom.passes.spots import Spot
 from viewloom.values.copies import copied_names, copied_pairs
 from viewloom.values.evaluating import evaluate, values_of
@@ -32,11 +33,6 @@ def kids_before(old):
     if old is None:
         return []
     return old.kids
-
-
-def has_resources(component):
-    """Returns whether a component has resources."""
-    return any([definition[0] == "resource" for definition in component["definitions"]])
 
 
 class Pass:
@@ -194,6 +190,9 @@ class Pass:
 
     def make_component(self, instance, description, old, spot):
         """Makes what a component has."""
+        if instance.name not in self.components:
+            # Where a component was kept while another program came, its view can use one that is not there any more.
+            raise Fault(f"unknown component {instance.name}")
         component = self.components[instance.name]
         instance.parameters = copied_names(dict(description[3]))
         instance.slot = copied_descriptions(description[4])

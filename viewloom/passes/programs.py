@@ -15,3 +15,8 @@ def handler_named(component, name):
         if handler[0] == name:
             return handler
     return None
+
+
+def has_resources(component):
+    """Returns whether a component has resources."""
+    return any([definition[0] == "resource" for definition in component["definitions"]])

@@ -50,7 +50,8 @@ def written_value(expression, environment, owner):
 
 def name_value(expression, environment, owner):
     """Returns the value of a name."""
-    return environment[expression[1]]
+    # Only where a component was kept while another program came, it can lack a name.
+    return environment.get(expression[1])
 
 
 def list_value(expression, environment, owner):

@@ -1,0 +1,1 @@
+"""Roots, which show a component."""

@@ -1,0 +1,1 @@
+"""Tools: reasons of renderings, texts of calls, and what fits another program."""
