@@ -1,6 +1,7 @@
 """Roots for tests: making them, and telling all that can be asked."""
 
 from tests.passes import short, told
+from viewloom.checks.checking import Checker
 from viewloom.documents.operations import apply_all
 from viewloom.passes.instances import walk
 from viewloom.root.root import Root
@@ -9,7 +10,9 @@ from viewloom.words.reading import parse_program
 
 def rooted(source, values=None, answers=(), component="Main", settled=True):
     """A root of a source, which has made its first passes unless it is told not to."""
-    root = Root(parse_program(source), component, values or {}, answers=answers)
+    program = parse_program(source)
+    Checker(program).check()
+    root = Root(program, component, values or {}, answers=answers)
     if settled:
         root.flush()
     return root
