@@ -88,6 +88,28 @@ INTERFACE = {
     ],
     "server/writing.py": ["write_tree(nodes)", "plain_text(nodes)"],
     "server/reading.py": ["read_tree(text)"],
+    "server/taking.py": ["Comparison", "compare_trees(read, now)"],
+    "tools/why.py": ["reasons(component, stores, before, now)", "why(program, before, now)"],
+    "tools/calls.py": ["write_call(name, values)", "read_call(text)", "read_recording(texts)"],
+    "tools/replacing.py": ["fits(before, now, name)", "pruned(tree, before, now)", "kept_stores(stores, now)"],
+    "root/root.py": [
+        "Root", "Root.__init__(self, program, component, values, *, answers=())", "Root.controls", "Root.pending",
+        "Root.is_held", "Root.last_operations(self)", "Root.store_values(self)", "Root.open_keys(self)",
+        "Root.log_lines(self)", "Root.whole_tree(self)", "Root.rendered_ids(self)", "Root.running_timers(self)",
+        "Root.work(self, n)", "Root.flush(self)", "Root.advance(self, ticks)",
+        "Root.set_cell(self, number, cell, value, lane='usual')",
+        "Root.run_handler(self, number, handler, arguments, lane='usual')",
+        "Root.set_values(self, values, lane='usual')", "Root.set_store(self, name, value)",
+        "Root.answer(self, key, value)", "Root.fail(self, key, message)", "Root.event(self, number, event, details)",
+        "Root.click(self, number)", "Root.enter(self, number, text)", "Root.clear(self, number)",
+        "Root.choose(self, number, value)", "Root.cells(self, number)", "Root.ids_of_tag(self, tag)", "Root.html(self)",
+        "Root.why(self)", "Root.recording(self)", "Root.take_log(self)", "Root.replace(self, program)",
+        "Root.unmount(self)",
+    ],
+    "root/serving.py": [
+        "render_text(program, component, values, answers)", "take_over(program, component, values, text, answers)",
+    ],
+    "root/replaying.py": ["replay(program, texts)"],
 }
 
 
