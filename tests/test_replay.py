@@ -182,7 +182,7 @@ class WrongRecordings(unittest.TestCase):
             ("event", [1, "go"]), ("event", [1, "go", []]), ("event", [1, 1, {}]), ("event", ["1", "go", {}]),
             ("event", [1, "go", None]), ("event", [1, "go", {}, 1]),
             ("click", []), ("click", ["1"]), ("click", [1, 2]), ("click", [None]), ("enter", [1]), ("enter", [1, 2]),
-            ("enter", ["a", 1]), ("enter", [1, "a", "b"]), ("clear", []), ("clear", ["a"]), ("clear", [1, 1]),
+            ("enter", ["a", 1]), ("enter", ["a", "b"]), ("clear", [None]), ("enter", [1, "a", "b"]), ("clear", []), ("clear", ["a"]), ("clear", [1, 1]),
             ("choose", [1]), ("choose", [1, 2]), ("choose", [1, None]), ("choose", ["a", "a"]), ("take_log", [1]),
             ("unmount", [None]), ("root", ["Main", {}]), ("cells", [1]), ("recording", []),
         ]:

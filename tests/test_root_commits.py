@@ -118,6 +118,24 @@ class Passes(unittest.TestCase):
         self.assertEqual(root.work(9), (True, 2))
         self.assertEqual((root.html(), lanes(root)), ("5Y5", []))
 
+    def test_trys_that_were_hidden(self):
+        source = component("state k = a; state n = 0;", 'await { try { <Bad n={n}/> } catch f { "failed" } <Asker k={k}/> }'
+                           ' else { "wait" }', "a", more="component Asker(k) { resource r = k; view { {r} } }"
+                           " component Bad(n) { view { {1 / n} } }")
+        root = rooted(source, {"a": "x"}, [("x", ("value", "X"))])
+        root.set_cell(1, "k", "y")
+        root.set_cell(1, "n", 1)
+        root.flush()
+        number = [one.number for one in walk(root.whole_tree()) if one.form == "try"][0]
+        self.assertEqual(root.run_handler(number, "retry", [], "idle"), (True, False, None))
+        root.flush()
+        self.assertEqual((root.html(), root.pending), ("wait", []))
+        root.answer("y", "Y")
+        # When it is shown, the lane of its update is woken.
+        root.work(9)
+        self.assertEqual(root.html(), "1Y")
+        self.assertEqual(root.pending, [])
+
     def test_a_commit_wakes_the_lanes_of_open_updates(self):
         root = self.ready()
         root.set_cell(1, "n", 4, "transition")
@@ -258,6 +276,16 @@ class Effects(unittest.TestCase):
         # Those of the run are ended, and its next run starts others.
         self.assertEqual(root.running_timers(), [(5, 10, 7), (4, 53, 0), (3, 60, 0)])
 
+    def test_timers_of_cleanups_belong_to_no_run(self):
+        root = rooted(component("state n = 0; state m = 0; effect [n] { log(n); } effect [m] {} cleanup { after 50 {} }", ""))
+        root.set_cell(1, "m", 1)
+        root.flush()
+        self.assertEqual(root.running_timers(), [(1, 50, 0)])
+        for value in (1, 2):
+            root.set_cell(1, "n", value)
+            root.flush()
+        self.assertEqual(root.running_timers(), [(1, 50, 0)])
+
     def test_timers_of_owners_that_go(self):
         root = rooted(component("state up = true; handler h() { after 9 {} }", "if up { <Leaf/> }",
                                 more="component Leaf() { handler h() { after 6 {} } effect [] { after 8 {} }"
@@ -314,6 +342,15 @@ class Faults(unittest.TestCase):
         self.assertEqual(root.html(), "outer not a text5")
         self.assertEqual(root.take_log(), [["1", 11], ["4", 11]])
         self.assertEqual(root.error, None)
+
+    def test_what_stands_in_a_failed_try(self):
+        root = rooted(component("state n = 0;", "try { try { <Bad/> } catch g { <A n={n}/> } } catch f { {f.message} }",
+                                more="component Bad() { view { {1 / 0} } }"
+                                     " component A(n) { effect [n] { log([0][n]); } view { {n} } }"))
+        self.assertEqual(root.html(), "0")
+        root.set_cell(1, "n", 1)
+        root.flush()
+        self.assertEqual((root.html(), root.error), ("nothing there", None))
 
     def test_several_messages_to_one_try(self):
         root = rooted(component("state n = 0;", "try { <A n={n}/> <B n={n}/> } catch f { {f.message} }",
@@ -380,6 +417,8 @@ class Ending(unittest.TestCase):
         root.set_store("s", 9)
         root.flush()
         self.assertEqual(root.html(), '<p><input default="x"></input></p>')
+        # No number was used for the timer of a cleanup.
+        self.assertEqual([number for number, _, _ in root.running_timers()], [2])
 
     def test_unmount_while_something_is_held(self):
         root = rooted(component("resource r = 1;", ""))

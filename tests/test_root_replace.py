@@ -81,6 +81,20 @@ class Replacing(unittest.TestCase):
         self.assertEqual(self.root.html(), "<p>721310</p>")
         self.assertEqual(self.replaced(component("state k = 0;", "{a}", "a")), "")
 
+    def test_parameters_that_were_dropped_do_not_come_again(self):
+        self.replaced(component("state k = 0;", "{b}", "b"))
+        self.assertEqual(self.replaced(component("state k = 0;", "{a} {b}", "a, b")), "6")
+
+    def test_no_timer_runs(self):
+        source = component("handler go() { every 5 { log(1); } }", "")
+        root = rooted(source)
+        root.run_handler(1, "go", [])
+        self.assertEqual(len(root.running_timers()), 1)
+        self.assertIs(root.replace(parsed(source)), True)
+        self.assertEqual(root.running_timers(), [])
+        root.run_handler(1, "go", [])
+        self.assertEqual(root.running_timers(), [(2, 5, 5)])
+
     def test_unknown_component(self):
         before = asked(self.root)
         with self.assertRaises(UnknownComponent) as caught:

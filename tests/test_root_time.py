@@ -246,6 +246,13 @@ class TimersOfEffects(unittest.TestCase):
         self.assertEqual([line[0] for line in root.log_lines()],
                          ["tick", "tick", "by timer", "tick", "by timer", "by handler", "tick", "by handler"])
 
+    def test_timers_of_events_belong_to_no_run(self):
+        root = rooted(component("handler go() { after 9 {} } effect [a] {}", "<p on go={do go()}/>", "a"), {"a": 1})
+        root.event(2, "go", {})
+        root.set_values({"a": 2})
+        root.flush()
+        self.assertEqual(root.running_timers(), [(1, 9, 0)])
+
     def test_they_fire_while_the_run_lasts(self):
         root = rooted(self.SOURCE, {"a": 1})
         root.advance(15)

@@ -6,7 +6,7 @@ import unittest
 from tests.helpers import shares
 from tests.passes import told
 from tests.roots import asked, component, first_of, in_short, lanes, rooted
-from viewloom.errors import UnknownComponent, UnknownLane, UnknownParameter, ViewError
+from viewloom.errors import AnswerGiven, UnknownComponent, UnknownLane, UnknownParameter, ViewError
 from viewloom.root.root import Root
 from viewloom.words.reading import parse_program
 
@@ -58,6 +58,7 @@ class NewRoots(unittest.TestCase):
     def test_ids_of_tag_in_order(self):
         root = rooted(component("", "<p><b/><p/></p> <b/> each x in [1, 2] by -x { <p/> }"))
         self.assertEqual((root.ids_of_tag("p"), root.ids_of_tag("b"), root.ids_of_tag("")), ([2, 4, 6, 7], [3, 5], []))
+        self.assertEqual(rooted(component("", '"p" <b/>')).ids_of_tag("p"), [])
 
     def test_answers(self):
         source = component('resource r = "k"; resource q = "l";', "{r} {q}")
@@ -203,6 +204,15 @@ class Deeds(unittest.TestCase):
         with self.assertRaises(UnknownLane):
             self.root.run_handler(99, "none", [], "fast")
 
+    def test_what_is_no_component_has_no_handler(self):
+        # The context has the name of a component.
+        root = rooted(component("", 'provide Leaf = 1 { <p/> } <Leaf/>',
+                                more="component Leaf() { context Leaf; handler go() { log(1); } view {} }"))
+        provide = root.whole_tree()[0].kids[0]
+        self.assertEqual((provide.form, provide.name), ("provide", "Leaf"))
+        self.assertEqual(root.run_handler(provide.number, "go", []), (False, False, None))
+        self.assertEqual(root.log_lines(), [])
+
     def test_set_cell(self):
         self.assertIs(self.root.set_cell(1, "n", [1, {"a": None}], "idle"), True)
         self.assertEqual(self.root.pending, [(3, 0)])
@@ -250,7 +260,7 @@ class Standing(unittest.TestCase):
     def test_what_was_passed_may_be_changed(self):
         program = parse_program(component(
             "state n = a; resource r = a; handler h(x) { n = x; s = x; log(x); after 1 { log(x); } }",
-            "<p on go={do h([1])}>{text(length(n))}</p> <Leaf v={a}/>", "a",
+            "<p on go={do h([1])}>{text(length(n))}</p> <Leaf v={a}/> {length(r)}", "a",
             "store s = [0];", "component Leaf(v) { view { {length(v)} } }"))
         values, answers = {"a": [1]}, [([1], ("value", [5])), ([1, 2], ("value", [6]))]
         root = Root(program, "Main", values, answers=answers)
@@ -259,7 +269,7 @@ class Standing(unittest.TestCase):
         answers[0][1][1].append(3)
         answers.clear()
         root.flush()
-        self.assertEqual(root.html(), "<p>1</p>1")
+        self.assertEqual(root.html(), "<p>1</p>11")
         given, key, value, details = [1, 2], [7], {"x": [1]}, {"k": [1]}
         root.run_handler(1, "h", [given])
         root.set_store("s", given)
@@ -277,8 +287,27 @@ class Standing(unittest.TestCase):
         root.flush()
         self.assertEqual(root.store_values(), {"s": [1]})
         self.assertEqual(root.log_lines(), [[[1, 2]], [[1]], [[1, 2]], [[1]]])
-        self.assertEqual(root.html(), "<p>1</p>2")
+        self.assertEqual(root.html(), "<p>1</p>21")
+        with self.assertRaises(AnswerGiven):
+            root.answer([7], 1)
         self.assertIs(root.set_store("s", [1]), False)
+
+    def test_answers_that_were_passed_may_be_changed(self):
+        root = rooted(component("resource r = [1];", "{length(r)}"))
+        key, value = [1], [1, 2]
+        root.answer(key, value)
+        key.append(2)
+        value.append(3)
+        root.flush()
+        self.assertEqual(root.html(), "2")
+
+    def test_stores_that_were_passed_may_be_changed(self):
+        root = rooted(PLAIN)
+        given = [[1]]
+        self.assertIs(root.set_store("s", given), True)
+        given[0].append(2)
+        self.assertEqual(root.store_values()["s"], [[1]])
+        self.assertIs(root.set_store("s", [[1]]), False)
 
     def test_nothing_that_is_passed_is_changed(self):
         source = component("state n = a; handler h(x) { n = x; s = x; log(x, event); }", "<p on go={do h([1])}>{1}</p>",

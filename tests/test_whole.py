@@ -128,6 +128,8 @@ class Walks(unittest.TestCase):
             if one.form == "component":
                 self.assertEqual(len(one.runs), len(one.wanted))
                 self.assertTrue(all(run is not None for run in one.runs))
+            else:
+                self.assertEqual((one.cells, one.runs, one.wanted, one.env), ([], [], [], {}))
         self.assertTrue(tree or not (root.document or root.running_timers() or root.is_held and root.commits))
         self.assertLessEqual(len(root.running_timers()), 20)
         self.assertLessEqual(len(root.log_lines()), 200)

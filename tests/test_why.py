@@ -70,6 +70,7 @@ class Reasons(unittest.TestCase):
         self.assertEqual(self.reasons(without, instance()), ["store y"])
         self.assertEqual(self.reasons(without, changed(y=None)), ["store y"])
         self.assertEqual(self.reasons(instance({}), instance({})), [])
+        self.assertEqual(self.reasons(instance(), without), ["store y"])
 
     def test_slots(self):
         slots = [(), (("text", "0", "a"),), (("text", "0", "b"),), (("text", "1", "a"),),
@@ -178,6 +179,12 @@ class Why(unittest.TestCase):
         self.assertEqual(why(show.program, [old], [instance(name="Leaf", number=5)]), [(5, "Leaf", ["new"])])
         element = Instance("element", 4, "", name="Leaf")
         self.assertEqual(why(show.program, [element], [instance(name="Leaf", number=4)]), [(4, "Leaf", ["new"])])
+
+    def test_only_components_are_told(self):
+        # A context has the name of a component.
+        show = Show('component Main() { view { provide Leaf = 1 { <p>"a"</p> } } } component Leaf() { context Leaf; view {} }')
+        show.go()
+        self.assertEqual(why(show.program, [], [show.tree]), [(1, "Main", ["new"])])
 
     def test_nothing_changes(self):
         show = Show(PROGRAM, {"a": [1]})

@@ -22,7 +22,7 @@ def commit(root, lanes, instance):
     show(root)
     root.before = before
     root.error = None
-    message = perform_steps(root, plan(before, root.tree), before + root.tree)
+    message = perform_steps(root, before)
     there = {one.number: True for one in walk(root.tree)}
     root.timers.end_owners([one.number for one in walk(before) if one.number not in there])
     root.commits += 1
@@ -71,12 +71,13 @@ def show(root):
     root.panel.settle(document)
 
 
-def perform_steps(root, steps, instances):
-    """Performs the steps of a plan over the tree; returns the first message with which the root fails, or None."""
-    names = {instance.number: instance.name for instance in walk(instances)}
+def perform_steps(root, before):
+    """Performs the plan from the tree before to that of a root; returns the first message with which this fails."""
+    names = names_of(before)
     failure = None
-    for step in steps:
+    for step in plan(before, root.tree):
         if step[0] == "clean":
+            # What has a run was in the tree before.
             do_deeds(root, cleaned(root, step, names[step[1]]), 0)
         else:
             message = run_effect(root, step)
@@ -85,12 +86,17 @@ def perform_steps(root, steps, instances):
     return failure
 
 
+def names_of(instances):
+    """Returns the dict of the ids of instances with their names."""
+    return {instance.number: instance.name for instance in walk(instances)}
+
+
 def block_of(root, name, index, part):
-    """Returns a block of an effect of a component, which is empty if the program has none like this."""
-    component = component_named(root.program, name)
-    if component is None or index >= len(component["effects"]):
+    """Returns a block of an effect of a component, which is empty if it has no such effect."""
+    effects = component_named(root.program, name)["effects"]
+    if index >= len(effects):
         return []
-    return component["effects"][index][part]
+    return effects[index][part]
 
 
 def cleaned(root, step, name):
@@ -135,7 +141,7 @@ def clean_all(root):
     """Cleans up all effects that have a run, over no tree; only what they do to stores and the log is done."""
     before = root.tree
     root.tree = []
-    names = {instance.number: instance.name for instance in walk(before)}
+    names = names_of(before)
     for step in plan(before, []):
         deeds = cleaned(root, step, names[step[1]])
         do_deeds(root, [deed for deed in deeds if deed[0] in LASTING], 0)

@@ -51,8 +51,7 @@ def has_handler(root, number, name):
         return False
     if instance.form == "try":
         return name == "retry"
-    component = component_named(root.program, instance.name)
-    return component is not None and handler_named(component, name) is not None
+    return handler_named(component_named(root.program, instance.name), name) is not None
 
 
 class Stage:
