@@ -29,7 +29,7 @@ class Settling(unittest.TestCase):
     def test_new_ones(self):
         for text, wanted in [
             ("<input></input>", ""), ('<input default="d"></input>', "d"), ('<input value="v"></input>', "v"),
-            ('<input value="v" default="d"></input>', "v"), ('<input value=""  default="d"></input>'.replace("  ", " "), ""),
+            ('<input value="v" default="d"></input>', "v"), ('<input value="" default="d"></input>', ""),
             ('<input checked="true" default="d"></input>', "d"),
             ("<area></area>", ""), ('<area default="d"></area>', "d"), ('<area value="v" default="d"></area>', "v"),
             ('<input kind="box"></input>', False), ('<input kind="box" checked="true"></input>', True),
