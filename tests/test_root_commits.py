@@ -428,6 +428,14 @@ class Ending(unittest.TestCase):
         root.answer(1, 1)
         self.assertEqual(root.pending, [])
 
+    def test_no_timer_runs_any_more(self):
+        for end in (lambda root: root.unmount(), lambda root: (root.set_cell(1, "n", 0), root.flush())):
+            root = rooted(component("state n = 1; handler go() { every 5 { log(1); } }", "{1 / n}"))
+            root.run_handler(1, "go", [])
+            self.assertEqual(len(root.running_timers()), 1)
+            end(root)
+            self.assertEqual((root.running_timers(), root.advance(50), root.log_lines()), ([], 50, []))
+
     def test_a_first_pass_that_fails(self):
         root = rooted(component("", "{1 / a}", "a"), {"a": 0})
         self.assertEqual((root.error, root.commits, root.last_operations(), root.pending), ("division by 0", 1, [], []))
