@@ -4,6 +4,8 @@ import unittest
 
 from tests.roots import Watch, asked, component, first_of, in_short, lanes, rooted
 from viewloom.passes.instances import walk
+from viewloom.root.replaying import replay
+from viewloom.words.reading import parse_program
 
 ASKING = component(
     "state k = a; state n = 0;", 'await { <Asker k={k}/> } else { "wait" {n} } {n}', "a",
@@ -388,6 +390,120 @@ class Faults(unittest.TestCase):
         root = rooted(component("", "try { <A/> } catch f { {f.message} } <A/>",
                                 more="component A() { effect [] { log(1 / 0); } view { \"a\" } }"))
         self.assertEqual((root.error, root.html(), root.commits), ("division by 0", "", 2))
+
+
+def long_fault(length, name="B"):
+    """The source of a component whose effect fails with a message of a length, at least 10, if a is 1."""
+    return (f"component {name}(a) {{ state s = {{}}; effect [a] {{ if a == 1 {{ log(s.{'x' * (length - 9)}); }} }}"
+            f' view {{ "fine" }} }}')
+
+
+def long_message(length):
+    return "no field " + "x" * (length - 9)
+
+
+class LongMessages(unittest.TestCase):
+    """The message of an effect reaches the try around it, however long it is ([47], [77])."""
+
+    VIEW = "<div>try { <B a={a}/> } catch e { <b on click={e.retry}/> {e.message} }</div>"
+
+    def failed(self, length):
+        return rooted(component("state a = 1;", self.VIEW, more=long_fault(length)))
+
+    def tried(self, root):
+        """The try of a root."""
+        return [one for one in walk(root.whole_tree()) if one.form == "try"][0]
+
+    def check(self, root, message, number=0):
+        self.assertEqual((root.error, root.html()), (None, f"<div><b></b>{message}</div>"))
+        tried = self.tried(root)
+        self.assertEqual((tried.message, tried.failed_at, tried.tries.present), (message, number, [number, message]))
+        self.assertEqual(tried.tries.queue, [])
+
+    def test_lengths(self):
+        # A list that an expression makes of a number and a text has the size of the text and 3 more.
+        for length in [10, 1996, 1997, 1998, 1999, 2000, 2001, 4001, 18000]:
+            with self.subTest(length=length):
+                root = self.failed(length)
+                self.check(root, long_message(length))
+                self.assertEqual((root.log_lines(), root.pending, root.commits), ([], [], 2))
+
+    def test_trying_again(self):
+        for length in (12, 1997, 1998, 5000):
+            root = self.failed(length)
+            for number in range(1, 4):
+                root.click(root.ids_of_tag("b")[0])
+                self.check(root, long_message(length), number)
+            root.set_cell(1, "a", 0)
+            root.flush()
+            self.check(root, long_message(length), 3)
+            root.click(root.ids_of_tag("b")[0])
+            self.assertEqual((root.html(), self.tried(root).tries.present), ("<div>fine</div>", [4, None]))
+
+    def test_what_is_tried_later(self):
+        # What was sent ahead of the message counts ahead of it, once its lane is done.
+        for length in (12, 5000):
+            for many in (0, 1, 2, 49):
+                root = self.failed(length)
+                root.set_cell(1, "a", 0)
+                root.flush()
+                root.click(root.ids_of_tag("b")[0])
+                number = self.tried(root).number
+                for _ in range(many):
+                    root.run_handler(number, "retry", [], "idle")
+                root.set_cell(1, "a", 1, "sync")
+                root.work(0)
+                tried = self.tried(root)
+                self.assertEqual((tried.tries.present, tried.tries.waiting), ([1, long_message(length)], many))
+                self.assertEqual(root.html(), f"<div><b></b>{long_message(length)}</div>")
+                root.flush()
+                self.check(root, long_message(length), many + 1)
+
+    def test_a_full_queue(self):
+        root = self.failed(5000)
+        root.set_cell(1, "a", 0)
+        root.flush()
+        root.click(root.ids_of_tag("b")[0])
+        for _ in range(50):
+            root.run_handler(self.tried(root).number, "retry", [], "idle")
+        root.set_cell(1, "a", 1, "sync")
+        root.flush()
+        # The message was dropped.
+        self.assertEqual((root.html(), root.error), ("<div>fine</div>", None))
+        self.assertEqual(self.tried(root).tries.present, [51, None])
+
+    def test_several_messages(self):
+        view = "<div>try { <B a={a}/> <C a={a}/> } catch e { <b on click={e.retry}/> {e.message} }</div>"
+        for first, second in [(5000, 3000), (5000, 10), (10, 5000)]:
+            root = rooted(component("state a = 1;", view, more=long_fault(first) + long_fault(second, "C")))
+            self.check(root, long_message(second))
+            root.click(root.ids_of_tag("b")[0])
+            self.check(root, long_message(second), 1)
+
+    def test_the_try_around_it(self):
+        view = 'try { try { <Bad/> } catch e { <B a={a}/> } } catch f { {length(f.message)} }'
+        root = rooted(component("state a = 1;", view, more="component Bad() { view { {1 / 0} } }" + long_fault(5000)))
+        self.assertEqual((root.html(), root.error), ("5000", None))
+
+    def test_without_a_try(self):
+        root = rooted(component("", "<B a={1}/>", more=long_fault(5000)))
+        self.assertEqual((root.error, root.document), (long_message(5000), ()))
+
+    def test_lists_that_expressions_make_of_it(self):
+        # These are bounded as ever.
+        view = "try { try { <B a={1}/> } catch e { {length([e.message])} } } catch f { {f.message} }"
+        for length, shown in [(1998, "1"), (1999, "too large")]:
+            self.assertEqual(rooted(component("", view, more=long_fault(length))).html(), shown)
+
+    def test_another_program_and_a_recording(self):
+        root = self.failed(5000)
+        again = replay(root.program, root.recording())
+        self.check(again, long_message(5000))
+        self.assertIs(root.replace(parse_program(component("state a = 1;", self.VIEW, more=long_fault(10)))), True)
+        root.flush()
+        self.check(root, long_message(5000))
+        root.click(root.ids_of_tag("b")[0])
+        self.check(root, long_message(10), 1)
 
 
 class Ending(unittest.TestCase):

@@ -227,6 +227,78 @@ class Time(unittest.TestCase):
         self.assertEqual(root.log_lines(), [[None]])
 
 
+class EventsOfTimers(unittest.TestCase):
+    """`event` is None in the block of a timer, whoever has started it ([56])."""
+
+    def clicked(self, lines, more=""):
+        """A root whose handler h has been called by a click, with 7 as x; its log is empty."""
+        handlers = f"handler h(x) {{ log(event.at); {lines} }} handler g() {{ {more} }}"
+        root = rooted(component(f"state n = 0; let acts = {{f: do g()}}; {handlers}", "<b on click={do h(7)}/>"))
+        self.assertEqual(root.event(2, "click", {"at": 1}), (True, False, []))
+        # The handler itself sees the event.
+        self.assertEqual(root.take_log(), [[1]])
+        return root
+
+    def check(self, root, ticks, lines):
+        root.advance(ticks)
+        self.assertEqual(root.take_log(), lines)
+
+    def test_after(self):
+        root = self.clicked("after 5 { log(event, x); }")
+        self.check(root, 4, [])
+        self.check(root, 1, [[None, 7]])
+
+    def test_every_time(self):
+        root = self.clicked("every 2 { log(event, x); }")
+        for _ in range(3):
+            self.check(root, 2, [[None, 7]])
+        self.check(root, 4, [[None, 7], [None, 7]])
+
+    def test_timers_of_timers(self):
+        root = self.clicked("after 1 { every 1 { log(event, x); after 0 { log(event, x + 1); } } log(event); }")
+        self.check(root, 1, [[None]])
+        self.check(root, 2, [[None, 7], [None, 8], [None, 7], [None, 8]])
+
+    def test_blocks_in_a_timer(self):
+        root = self.clicked("later { after 1 { if event == null { later { log(event, x); } } else { log(1); } } }")
+        self.check(root, 1, [[None, 7]])
+
+    def test_handlers_that_a_timer_calls(self):
+        root = self.clicked("after 2 { call acts.f(); }", "log(event); after 3 { log(event); }")
+        self.check(root, 2, [[None]])
+        self.check(root, 3, [[None]])
+
+    def test_timers_of_handlers_that_the_handler_calls(self):
+        root = self.clicked("call acts.f();", "n = event.at; after 3 { log(event); }")
+        self.check(root, 3, [[None]])
+        # What was sent ahead of it has the event still.
+        root.flush()
+        self.assertEqual(root.cells(1), [("n", 1, 0)])
+
+    def test_updates_of_a_timer(self):
+        root = self.clicked("n = event.at; after 3 { n = [n, event]; }")
+        self.check(root, 3, [])
+        root.flush()
+        self.assertEqual(root.cells(1), [("n", [1, None], 0)])
+
+    def test_fields_of_the_event(self):
+        root = self.clicked("after 1 { log(x); log(event.at); }")
+        self.check(root, 1, [[7], ["not a record"]])
+
+    def test_gestures(self):
+        root = rooted(component("handler h() { after 1 { log(event); } }", "<b on click={do h()}/>"))
+        root.click(2)
+        self.check(root, 1, [[None]])
+
+    def test_timers_that_no_event_has_started(self):
+        root = self.clicked("", "every 1 { log(event); }")
+        root.run_handler(1, "g", [])
+        self.check(root, 2, [[None], [None]])
+        root = rooted(component("let acts = {f: do g()}; handler g() { after 1 { log(event); } }"
+                                " effect [] { call acts.f(); after 2 { call acts.f(); } }", ""))
+        self.check(root, 3, [[None], [None]])
+
+
 class TimersOfEffects(unittest.TestCase):
     SOURCE = component(
         "let acts = {f: do start()}; handler start() { after 30 { log(\"by handler\"); } }"

@@ -7,7 +7,7 @@ from viewloom.words.reading import parse_expression
 
 MOST_LINES = 200
 ONE_TRY_MORE = "[tries[0] + 1, null]"
-FAILURE_OF_TRY = "[tries[0], message]"
+FAILURE_OF_TRY = "failures[tries[0] - least]"
 
 
 def do_deeds(root, deeds, run):
@@ -77,7 +77,11 @@ def do_retry(root, deed, run):
 
 def tell_try(root, instance, message):
     """Lets a try fail with a message."""
-    instance.tries.send(Schedule.SYNC, parse_expression(FAILURE_OF_TRY), {"message": message})
+    # No expression can make a list of a long text, so that this one takes a list that is given. There is one for each
+    # number that the cell may have by then, since each update ahead of it can increase the number by one.
+    least = instance.tries.base[0]
+    failures = [[least + more, message] for more in range(len(instance.tries.queue) + 1)]
+    instance.tries.send(Schedule.SYNC, parse_expression(FAILURE_OF_TRY), {"least": least, "failures": failures})
     wake(root, Schedule.SYNC)
 
 

@@ -28,6 +28,9 @@ def fire(root):
     """Lets the timer fire that is next."""
     root.clock = root.timers.next_due()
     owner, lane, environment, block, run = root.timers.fire()
+    # A timer that a handler has started keeps the event of the handler, which is over by now.
+    if "event" in environment:
+        environment["event"] = None
     done = perform(root.program, root.tree, block, owner=owner, environment=environment, lane=lane)
     do_deeds(root, done.deeds, run)
     if done.fault is not None:
